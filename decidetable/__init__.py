@@ -1,0 +1,1 @@
+"""Tables that decide, whole."""
