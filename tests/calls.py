@@ -26,6 +26,26 @@ def decide(*case):
     return [4, len(case), *case]
 
 
+def gap():
+    return [5]
+
+
+def clash():
+    return [6]
+
+
+def needless(k):
+    return [7, k]
+
+
+def keep():
+    return [8]
+
+
+def differ():
+    return [9]
+
+
 def joined(calls):
     return [number for call in calls for number in call]
 

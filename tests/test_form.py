@@ -22,6 +22,13 @@ FORBIDDEN_NODES = (
     ast.NamedExpr, ast.Starred, ast.Div,
 )
 
+# L25: the methods of Python's own values.
+ALLOWED_METHODS = set("""
+    append clear copy count endswith extend find get index insert isalnum isalpha isdigit islower isspace isupper
+    items join keys ljust lower lstrip partition pop remove replace reverse rfind rjust rpartition rsplit rstrip
+    setdefault split splitlines startswith strip update upper values zfill bit_length
+""".split())
+
 # L17: words that stand nowhere, remarks and texts too.
 FORBIDDEN_WORDS = re.compile(
     r"\b(type|typing|typing_extensions|enum|Enum|IntEnum|StrEnum|Flag|IntFlag|Generic|Protocol|ABC|ABCMeta"
@@ -87,6 +94,15 @@ class FormTest(unittest.TestCase):
                 self.assertFalse(node.id.startswith("_"), place(path, node))
             if isinstance(node, ast.arg):
                 self.assertFalse(node.arg.startswith("_") or hasattr(builtins, node.arg), place(path, node))
+
+    def test_methods_and_values(self):
+        methods = {method.name for path, node in nodes() if isinstance(node, ast.ClassDef)
+                   for method in node.body if isinstance(method, ast.FunctionDef)}
+        for path, node in nodes():
+            if isinstance(node, ast.Call) and isinstance(node.func, ast.Attribute):
+                self.assertIn(node.func.attr, methods | ALLOWED_METHODS, place(path, node))
+            if isinstance(node, ast.Attribute) and isinstance(node.ctx, ast.Store):
+                self.assertNotIn(node.attr, methods | ALLOWED_METHODS, place(path, node))
 
 
 if __name__ == "__main__":
